@@ -1,0 +1,1 @@
+"""Beats and rests laid as evenly as can be, or two stretches that show that they aren't."""
