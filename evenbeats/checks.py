@@ -27,6 +27,11 @@ def is_ring(value):
     return is_row(value) and len(value) >= 1
 
 
+def check_row(value):
+    if not is_row(value):
+        raise BadRing("a row is a text of x and ., and of nothing else")
+
+
 def check_ring(value):
     if not is_ring(value):
         raise BadRing("a ring is a text of one x or . at least, and of nothing else")

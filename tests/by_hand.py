@@ -1,8 +1,19 @@
 """Counting by hand, against which the program is held, and what it must refuse."""
 
+import unittest
 from decimal import Decimal
 from fractions import Fraction
 from itertools import product
+
+
+class RefusalCase(unittest.TestCase):
+    def refused(self, error, call, *given):
+        try:
+            call(*given)
+        except error as raised:
+            self.assertIs(type(raised), error)
+        else:
+            self.fail(f"{call.__name__}: nothing was refused")
 
 
 class Stubborn:
@@ -99,3 +110,44 @@ def parted_by_hand(row, first, second, many):
     if one is None or other is None:
         return False
     return one.count("x") - other.count("x") >= 2
+
+
+def counts_around(ring, many):
+    return [(ring + ring)[place:place + many].count("x") for place in range(len(ring))]
+
+
+def is_even_by_slices(ring):
+    """As is_even_by_hand, for rings of some hundred places."""
+    return not any(max(counts) - min(counts) > 1 for counts in (counts_around(ring, many) for many in range(len(ring))))
+
+
+def is_unparted_by_hand(row):
+    for many in range(1, len(row) + 1):
+        counts = [row[place:place + many].count("x") for place in range(len(row) - many + 1)]
+        if max(counts) - min(counts) > 1:
+            return False
+    return True
+
+
+def gaps_by_hand(ring):
+    """From each beat on step by step till the next one, around the ring."""
+    told = []
+    for place in range(len(ring)):
+        if ring[place] == "x":
+            step = 1
+            while ring[(place + step) % len(ring)] != "x":
+                step += 1
+            told.append(step)
+    return told
+
+
+def with_sign(row, place, sign):
+    return row[:place] + sign + row[place + 1:]
+
+
+def with_other_sign(row, place):
+    return with_sign(row, place, "." if row[place] == "x" else "x")
+
+
+def with_signs_exchanged(row, one, other):
+    return with_sign(with_sign(row, one, row[other]), other, row[one])

@@ -45,6 +45,11 @@ def nodes_of(*kinds):
     return [(path.name, node) for path, tree in trees() for node in ast.walk(tree) if isinstance(node, kinds)]
 
 
+def names_at_the_top(tree):
+    names = [node.name for node in tree.body if isinstance(node, (ast.FunctionDef, ast.ClassDef))]
+    return names + [node.targets[0].id for node in tree.body if isinstance(node, ast.Assign)]
+
+
 class LanguageTest(unittest.TestCase):
     def test_the_package_holds_plain_files_alone(self):
         self.assertIn(PACKAGE / "__init__.py", FILES)
@@ -78,6 +83,58 @@ class LanguageTest(unittest.TestCase):
             self.assertIsInstance(node, ast.ImportFrom, name)
             self.assertEqual(node.level, 0, name)
             self.assertRegex(node.module, r"\Aevenbeats\.[a-z_]+\Z", name)
+
+    def test_names_are_imported_from_the_very_file_that_defines_them(self):
+        bound = {path.stem: names_at_the_top(tree) for path, tree in trees()}
+        for name, node in nodes_of(ast.ImportFrom):
+            for alias in node.names:
+                self.assertIn(alias.name, bound[node.module.split(".")[1]], (name, node.lineno))
+                self.assertIsNone(alias.asname, (name, node.lineno))
+
+    def test_no_two_files_draw_from_one_another(self):
+        drawn = {
+            path.stem: {node.module.split(".")[1] for node in tree.body if isinstance(node, ast.ImportFrom)}
+            for path, tree in trees()
+        }
+        while drawn:
+            free = [name for name, others in drawn.items() if not others & set(drawn)]
+            self.assertTrue(free, sorted(drawn))
+            for name in free:
+                drawn.pop(name)
+
+    def test_each_name_once_at_a_file_s_top_and_for_nothing_else(self):
+        for path, tree in trees():
+            names = names_at_the_top(tree)
+            names += [alias.name for node in tree.body if isinstance(node, ast.ImportFrom) for alias in node.names]
+            self.assertEqual(sorted(names), sorted(set(names)), path.name)
+            for node in ast.walk(tree):
+                if isinstance(node, ast.arg):
+                    self.assertNotIn(node.arg, names, (path.name, node.lineno))
+            for top in tree.body:
+                for node in ast.walk(top) if isinstance(top, (ast.FunctionDef, ast.ClassDef)) else ():
+                    if isinstance(node, ast.Name) and isinstance(node.ctx, ast.Store):
+                        self.assertNotIn(node.id, names, (path.name, node.lineno))
+
+    def test_one_target_in_an_assignment(self):
+        for name, node in nodes_of(ast.Assign):
+            self.assertEqual(len(node.targets), 1, (name, node.lineno))
+            self.assertNotIsInstance(node.targets[0], (ast.Tuple, ast.List), (name, node.lineno))
+
+    def test_loops_comprehensions_and_tries_are_plain(self):
+        for name, node in nodes_of(ast.For, ast.While):
+            self.assertEqual(node.orelse, [], (name, node.lineno))
+        for name, node in nodes_of(ast.Try):
+            self.assertEqual(node.finalbody, [], (name, node.lineno))
+        for name, node in nodes_of(ast.ListComp):
+            self.assertEqual(len(node.generators), 1, (name, node.lineno))
+            self.assertLessEqual(len(node.generators[0].ifs), 1, (name, node.lineno))
+
+    def test_is_stands_beside_none_true_and_false_alone(self):
+        for name, node in nodes_of(ast.Compare):
+            for operator, right in zip(node.ops, node.comparators):
+                if isinstance(operator, (ast.Is, ast.IsNot)):
+                    self.assertIsInstance(right, ast.Constant, (name, node.lineno))
+                    self.assertIn(right.value.__class__, (bool, type(None)), (name, node.lineno))
 
     def test_only_the_allowed_names_of_python_s_own(self):
         for name, node in nodes_of(ast.Name):

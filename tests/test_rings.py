@@ -3,18 +3,9 @@ import unittest
 from evenbeats.errors import BadCount, BadRing
 from evenbeats.rings import about, exchanged, laid, reckoned, turned
 from tests.by_hand import (
-    NO_NUMBERS, NO_RINGS, VERY_GREAT, beats_around, is_even_by_hand, rings_up_to, row_by_hand, sign_by_hand,
+    NO_NUMBERS, NO_RINGS, VERY_GREAT, RefusalCase, beats_around, is_even_by_hand, rings_up_to, row_by_hand,
+    sign_by_hand,
 )
-
-
-class RefusalCase(unittest.TestCase):
-    def refused(self, error, call, *given):
-        try:
-            call(*given)
-        except error as raised:
-            self.assertIs(type(raised), error)
-        else:
-            self.fail(f"{call.__name__}: nothing was refused")
 
 
 class ReckonedTest(unittest.TestCase):
